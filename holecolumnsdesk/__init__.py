@@ -1,0 +1,1 @@
+"""Columns of floats with holes, and masks over their rows."""

@@ -77,3 +77,41 @@ def pack(a, mask):
     """Answer how many rows of a have their bit set, then these rows."""
     rows = [row for row, bit in zip(a, mask) if bit == 1]
     return [len(rows)] + rows
+
+
+def spread(other, source, mask):
+    """Answer how many bits are set, then source's rows where they are, other elsewhere."""
+    rows = []
+    taken = 0
+    for bit in mask:
+        if bit == 1:
+            rows.append(source[taken])
+            taken += 1
+        else:
+            rows.append(other)
+    return [taken] + rows
+
+
+def has_row(column, place):
+    """Tell whether the column has a row of this place."""
+    # Python would count a place below 0 from the column's end.
+    return 0 <= place < len(column)
+
+
+def pick(other, a, places):
+    """Answer how many places a doesn't have, then a's rows of the places, other for those."""
+    rows = [a[place] if has_row(a, place) else other for place in places]
+    # The rows can't tell: a's own row may have the same bits as other.
+    missing = [place for place in places if not has_row(a, place)]
+    return [len(missing)] + rows
+
+
+def lay(a, places, source):
+    """Answer how many rows of source were laid at their places, then a with these."""
+    rows = list(a)
+    laid = 0
+    for place, row in zip(places, source):
+        if has_row(rows, place):
+            rows[place] = row
+            laid += 1
+    return [laid] + rows

@@ -37,6 +37,9 @@ HOLES = [
 ]
 FLOATS = NUMBERS + HOLES
 
+# Places that a column of three rows doesn't have.
+FAR_PLACES = [-2147483648, -2147483647, -1000, -4, -3, -2, -1, 3, 4, 1000, 2147483646, 2147483647]
+
 NOT_ALLOWED = [
     "__delitem__", "__iadd__", "__imul__", "__setitem__", "append", "clear",
     "extend", "insert", "pop", "remove", "reverse", "sort",

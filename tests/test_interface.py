@@ -7,43 +7,61 @@ import io
 import pathlib
 import unittest
 
+from helper import check_call
 from holecolumnsdesk import columns
 
 PACKAGE = pathlib.Path(columns.__file__).parent
-ARGUMENTS = {
-    "where": ["what", "a", "b"],
-    "masks": ["what", "a", "b"],
-    "pack": ["a", "mask"],
+
+# Each function by its name: calls with their arguments, in order, and the answer.
+CALLS = {
+    "where": [
+        ({"what": 0, "a": [0], "b": [1]}, [1, 1]),
+        ({"what": 8, "a": [0], "b": [1]}, [-1]),
+    ],
+    "masks": [
+        ({"what": 2, "a": [1], "b": [0]}, [1, 1]),
+        ({"what": 5, "a": [1], "b": [0]}, [-1]),
+    ],
+    "pack": [({"a": [7, 8], "mask": [0, 1]}, [1, 8])],
+    "spread": [({"other": 5, "source": [7], "mask": [0, 1]}, [1, 5, 7])],
+    "pick": [({"other": 5, "a": [7], "places": [-1, 0]}, [1, 5, 7])],
+    "lay": [({"a": [7, 8], "places": [1, 2], "source": [5, 6]}, [1, 7, 5])],
 }
+
+
+def every_call():
+    return [(getattr(columns, name), given, answer) for name, calls in CALLS.items() for given, answer in calls]
 
 
 class Interface(unittest.TestCase):
     def test_names_and_arguments(self):
-        for name, arguments in ARGUMENTS.items():
+        for name, calls in CALLS.items():
             found = inspect.signature(getattr(columns, name)).parameters
-            self.assertEqual(list(found), arguments)
+            for parameter in found.values():
+                self.assertIs(parameter.kind, inspect.Parameter.POSITIONAL_OR_KEYWORD)
+                self.assertIs(parameter.default, inspect.Parameter.empty)
+            for given, answer in calls:
+                self.assertEqual(list(found), list(given), name)
 
     def test_arguments_by_name(self):
-        self.assertEqual(columns.where(what=0, a=[0], b=[1]), [1, 1])
-        self.assertEqual(columns.masks(what=2, a=[1], b=[0]), [1, 1])
-        self.assertEqual(columns.pack(a=[7], mask=[1]), [1, 7])
+        for call, given, answer in every_call():
+            self.assertEqual(call(**given), answer)
+
+    def test_arguments_in_order(self):
+        for call, given, answer in every_call():
+            check_call(self, call, list(given.values()), answer)
 
     def test_calls_do_not_disturb_one_another(self):
-        first = (columns.where(0, [0], [1]), columns.masks(4, [0], [0]), columns.pack([3], [1]))
-        columns.where(9, [], [])
-        columns.masks(9, [], [])
-        columns.pack([1, 2, 3], [1, 0, 1])
-        second = (columns.where(0, [0], [1]), columns.masks(4, [0], [0]), columns.pack([3], [1]))
-        self.assertEqual(first, second)
+        for first, given, answer in every_call():
+            for other, arguments, other_answer in every_call():
+                self.assertEqual(first(**given), answer)
+                self.assertEqual(other(**arguments), other_answer)
 
     def test_prints_nothing(self):
         shown, told = io.StringIO(), io.StringIO()
         with contextlib.redirect_stdout(shown), contextlib.redirect_stderr(told):
-            columns.where(0, [0], [1])
-            columns.where(8, [0], [1])
-            columns.masks(0, [0], [1])
-            columns.masks(5, [0], [1])
-            columns.pack([0], [1])
+            for call, given, answer in every_call():
+                call(**given)
         self.assertEqual(shown.getvalue() + told.getvalue(), "")
 
 

@@ -2,8 +2,11 @@
 
 SIGN_BIT = 0x80000000
 INFINITY = 0x7F800000
+LEAST_WHOLE = -0x80000000
+ALL_WHOLES = 0x100000000
 LAST_WHERE = 7
 LAST_MASKS = 4
+LAST_LIMITS = 1
 
 
 def is_hole(bits):
@@ -115,3 +118,48 @@ def lay(a, places, source):
             rows[place] = row
             laid += 1
     return [laid] + rows
+
+
+def wrapped(number):
+    """Bring a whole number into -2^31 to 2^31 - 1, modulo 2^32."""
+    return (number - LEAST_WHOLE) % ALL_WHOLES + LEAST_WHOLE
+
+
+def add_at(a, places, source):
+    """Answer how many rows of source were added at their places, then a with these."""
+    rows = list(a)
+    added = 0
+    for place, row in zip(places, source):
+        if has_row(rows, place):
+            rows[place] = wrapped(rows[place] + row)
+            added += 1
+    return [added] + rows
+
+
+def choose(mask, a, b):
+    """Answer 0, then a's row where the bit is set, b's elsewhere."""
+    return [0] + [left if bit == 1 else right for bit, left, right in zip(mask, a, b)]
+
+
+def rank_zeros_apart(bits):
+    """Give a rank as rank does, but a lower one to -0 than to 0."""
+    return rank(bits) - 1 if bits >= SIGN_BIT else rank(bits)
+
+
+def limit(what, left, right):
+    """Give the lower (what 0) or the greater (what 1) of two floats, a hole only for want of a number."""
+    if is_hole(right):
+        return left
+    if is_hole(left):
+        return right
+    left_is_lower = rank_zeros_apart(left) < rank_zeros_apart(right)
+    return left if left_is_lower == (what == 0) else right
+
+
+def limits(what, a, b):
+    """Answer in how many rows both are holes, then the lower or greater of each row; or -1."""
+    if what < 0 or what > LAST_LIMITS:
+        return [-1]
+    rows = [limit(what, left, right) for left, right in zip(a, b)]
+    # A row is left a hole only where both are.
+    return [len([row for row in rows if is_hole(row)])] + rows

@@ -37,6 +37,12 @@ HOLES = [
 ]
 FLOATS = NUMBERS + HOLES
 
+# Whole numbers at the edges of -2^31 to 2^31 - 1, and some within.
+WHOLES = [
+    -2147483648, -2147483647, -1073741825, -1073741824, -1000, -2, -1,
+    0, 1, 2, 1000, 1073741823, 1073741824, 2147483646, 2147483647,
+]
+
 # Places that a column of three rows doesn't have.
 FAR_PLACES = [-2147483648, -2147483647, -1000, -4, -3, -2, -1, 3, 4, 1000, 2147483646, 2147483647]
 
@@ -58,6 +64,11 @@ def is_nan(bits):
 def long_column(count):
     """A column of count rows in which every float at the edges turns up."""
     return [FLOATS[(7 * i + i // len(FLOATS)) % len(FLOATS)] for i in range(count)]
+
+
+def long_wholes(count):
+    """Count whole numbers among which every one at the edges turns up."""
+    return [WHOLES[(7 * i + i // len(WHOLES)) % len(WHOLES)] for i in range(count)]
 
 
 def long_mask(count):

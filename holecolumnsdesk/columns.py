@@ -7,6 +7,7 @@ ALL_WHOLES = 0x100000000
 LAST_WHERE = 7
 LAST_MASKS = 4
 LAST_LIMITS = 1
+LAST_FIND = 1
 
 
 def is_hole(bits):
@@ -76,9 +77,14 @@ def masks(what, a, b):
     return [sum(bits)] + bits
 
 
+def set_rows(a, mask):
+    """Give the rows of a whose bit is set, in their order."""
+    return [row for row, bit in zip(a, mask) if bit == 1]
+
+
 def pack(a, mask):
     """Answer how many rows of a have their bit set, then these rows."""
-    rows = [row for row, bit in zip(a, mask) if bit == 1]
+    rows = set_rows(a, mask)
     return [len(rows)] + rows
 
 
@@ -163,3 +169,41 @@ def limits(what, a, b):
     rows = [limit(what, left, right) for left, right in zip(a, b)]
     # A row is left a hole only where both are.
     return [len([row for row in rows if is_hole(row)])] + rows
+
+
+def hold(a):
+    """Answer how many holes were filled, then a with the nearest number before in their place."""
+    rows = []
+    filled = 0
+    for row in a:
+        # A row that is filled hands its number on; only ahead of all numbers a hole is left.
+        if is_hole(row) and len(rows) > 0 and not is_hole(rows[-1]):
+            rows.append(rows[-1])
+            filled += 1
+        else:
+            rows.append(row)
+    return [filled] + rows
+
+
+def number_places(a):
+    """Give the places of the rows that are no holes."""
+    return [place for place, row in enumerate(a) if not is_hole(row)]
+
+
+def find(what, a, mask):
+    """Answer 1, then the place of the least or greatest number whose bit is set; or 0; or -1."""
+    if what < 0 or what > LAST_FIND:
+        return [-1]
+    places = [place for place in number_places(a) if mask[place] == 1]
+    if len(places) == 0:
+        return [0]
+    # Of several that are the same, min and max both give the first.
+    if what == 0:
+        return [1, min(places, key=lambda place: rank(a[place]))]
+    return [1, max(places, key=lambda place: rank(a[place]))]
+
+
+def total(a, mask):
+    """Answer how many rows of a have their bit set, then their sum."""
+    rows = set_rows(a, mask)
+    return [len(rows), sum(rows)]

@@ -2,7 +2,7 @@
 
 SIGN_BIT = 0x80000000
 INFINITY = 0x7F800000
-LEAST_WHOLE = -0x80000000
+HALF_OF_WHOLES = 0x80000000
 ALL_WHOLES = 0x100000000
 LAST_WHERE = 7
 LAST_MASKS = 4
@@ -128,7 +128,7 @@ def lay(a, places, source):
 
 def wrapped(number):
     """Bring a whole number into -2^31 to 2^31 - 1, modulo 2^32."""
-    return (number - LEAST_WHOLE) % ALL_WHOLES + LEAST_WHOLE
+    return (number + HALF_OF_WHOLES) % ALL_WHOLES - HALF_OF_WHOLES
 
 
 def add_at(a, places, source):
@@ -158,8 +158,9 @@ def limit(what, left, right):
         return left
     if is_hole(left):
         return right
-    left_is_lower = rank_zeros_apart(left) < rank_zeros_apart(right)
-    return left if left_is_lower == (what == 0) else right
+    if rank_zeros_apart(left) < rank_zeros_apart(right):
+        return left if what == 0 else right
+    return right if what == 0 else left
 
 
 def limits(what, a, b):
@@ -207,3 +208,17 @@ def total(a, mask):
     """Answer how many rows of a have their bit set, then their sum."""
     rows = set_rows(a, mask)
     return [len(rows), sum(rows)]
+
+
+def runs(a):
+    """Answer how many runs of the same bits there are, then the places where they begin."""
+    places = [place for place in range(len(a)) if place == 0 or a[place] != a[place - 1]]
+    return [len(places)] + places
+
+
+def order(a):
+    """Answer how many rows there are, then their places: numbers rising, holes behind them."""
+    # sorted leaves rows of the same rank in the order that they had.
+    numbers = sorted(number_places(a), key=lambda place: rank(a[place]))
+    holes = [place for place, row in enumerate(a) if is_hole(row)]
+    return [len(a)] + numbers + holes

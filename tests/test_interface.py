@@ -39,6 +39,8 @@ CALLS = {
         ({"what": 2, "a": [1], "mask": [1]}, [-1]),
     ],
     "total": [({"a": [1, -7, 5], "mask": [0, 1, 1]}, [2, -2])],
+    "runs": [({"a": [4, 4, 0, 0x80000000]}, [3, 0, 2, 3])],
+    "order": [({"a": [0x7FC00000, 4, 0, 0x80000000]}, [4, 2, 3, 1, 0])],
 }
 
 
@@ -47,6 +49,9 @@ def every_call():
 
 
 class Interface(unittest.TestCase):
+    def test_all_fourteen_are_called_here(self):
+        self.assertEqual(len(CALLS), 14)
+
     def test_names_and_arguments(self):
         for name, calls in CALLS.items():
             found = inspect.signature(getattr(columns, name)).parameters
@@ -80,9 +85,10 @@ class Interface(unittest.TestCase):
 
 class Files(unittest.TestCase):
     def test_imports_nothing(self):
-        tree = ast.parse((PACKAGE / "columns.py").read_text())
-        imports = [x for x in ast.walk(tree) if isinstance(x, (ast.Import, ast.ImportFrom))]
-        self.assertEqual(imports, [])
+        for path in PACKAGE.glob("*.py"):
+            tree = ast.parse(path.read_text())
+            imports = [x for x in ast.walk(tree) if isinstance(x, (ast.Import, ast.ImportFrom))]
+            self.assertEqual(imports, [], path.name)
 
     def test_signs_and_sizes(self):
         for path in PACKAGE.glob("*.py"):
